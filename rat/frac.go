@@ -164,6 +164,44 @@ func (f Frac) nearest(places int) nat.Big {
 	return size
 }
 
+// Shift: times ten to the power places, which may be below 0.
+func (f Frac) Shift(places int) Frac {
+	ten := whole(1)
+	if places < 0 {
+		ten.den = ten.den.Shift(-places)
+	} else {
+		ten.num = ten.num.Shift(places)
+	}
+	return times(f, ten)
+}
+
+// Places: how many digits its size has ahead of the point: the n for which it is from ten to the n - 1 on, and below ten to the n. f must not be 0.
+func (f Frac) Places() int {
+	// By their digits alone it is this n, or one more.
+	n := f.num.Len() - f.den.Len()
+	num, den := f.num, f.den
+	if n < 0 {
+		num = num.Shift(-n)
+	} else {
+		den = den.Shift(n)
+	}
+	if num.Cmp(den) < 0 {
+		return n
+	}
+	return n + 1
+}
+
+// Round: the whole number nearest to it; of two the even one.
+func (f Frac) Round() Frac {
+	return Ratio(f.below, f.nearest(0), nat.BigOf(1))
+}
+
+// Root: the greatest whole number whose square is not above f, which must not be below 0.
+func (f Frac) Root() Frac {
+	size, _ := f.floor()
+	return Ratio(false, size.Root(2), nat.BigOf(1))
+}
+
 // lowest divides both by what they share.
 func lowest(num, den nat.Big) (nat.Big, nat.Big) {
 	if num.IsOne() || den.IsOne() {
