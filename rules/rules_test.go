@@ -55,6 +55,9 @@ func calling() map[string]string {
 	}
 }
 
+// standing: the packages of the start that are built.
+func standing() []string { return strings.Fields("nat rat dim names prefix reg base si") }
+
 type source struct {
 	path, folder string
 	text         []byte
@@ -102,6 +105,26 @@ func TestImports(t *testing.T) {
 			if of && !mayImport(s.folder, own) {
 				t.Errorf("%s imports %s, which is not ahead of it", s.path, path)
 			}
+		}
+	}
+}
+
+// Rule 9: the packages of the start import just those of the project that chapter 16 tells.
+func TestImportsOfTheStart(t *testing.T) {
+	all := sources(t)
+	for _, folder := range standing() {
+		var got []string
+		for _, s := range all {
+			for _, i := range s.file.Imports {
+				path, _ := strconv.Unquote(i.Path.Value)
+				if own, of := strings.CutPrefix(path, "cubit/"); of && s.folder == folder {
+					got = append(got, own)
+				}
+			}
+		}
+		slices.Sort(got)
+		if got = slices.Compact(got); !slices.Equal(got, strings.Fields(starting()[folder])) {
+			t.Errorf("package %s imports %q", folder, got)
 		}
 	}
 }

@@ -5,6 +5,11 @@ import (
 	"slices"
 	"strings"
 	"testing"
+
+	"cubit/api"
+	"cubit/base"
+	"cubit/prefix"
+	"cubit/si"
 )
 
 // made: the variables of the start, as the chapters' tables have them: of each package, line by line, a file, a variable, and on which others it leans.
@@ -43,7 +48,33 @@ func made() map[string]string {
 			two.go gibi mebi kibi
 			two.go mebi kibi
 			two.go kibi`,
+		"base": `
+			base.go bit
+			base.go candela metre gram second
+			base.go mole
+			base.go kelvin metre gram second
+			base.go ampere second
+			base.go gram metre second
+			base.go second
+			base.go metre second`,
+		"si": `
+			electric.go all force energy power electric times rays plane light along
+			electric.go electric power
+			light.go light plane
+			light.go rays energy times
+			mechanic.go force
+			mechanic.go energy force
+			mechanic.go power energy
+			mechanic.go times
+			mechanic.go plane
+			mechanic.go along force`,
 	}
+}
+
+// variable: which one a function makes, by its name; Made of package si makes none.
+func variable(name string) (string, bool) {
+	name, ok := strings.CutSuffix(name, "Made")
+	return name, ok && name != ""
 }
 
 // makers: the functions of a package that make variables (their names end with Made), in the order of the text, file by file, as lines of the table above.
@@ -58,7 +89,7 @@ func makers(all []source, folder string) []string {
 			if !ok {
 				continue
 			}
-			if name, ok := strings.CutSuffix(f.Name.Name, "Made"); ok {
+			if name, ok := variable(f.Name.Name); ok {
 				file := s.path[strings.LastIndex(s.path, "/")+1:]
 				lines = append(lines, strings.Join(append([]string{file, name}, calledMakers(f)...), " "))
 			}
@@ -76,7 +107,7 @@ func calledMakers(f *ast.FuncDecl) []string {
 			return true
 		}
 		if id, ok := call.Fun.(*ast.Ident); ok {
-			if name, ok := strings.CutSuffix(id.Name, "Made"); ok && !slices.Contains(l, name) {
+			if name, ok := variable(id.Name); ok && !slices.Contains(l, name) {
 				l = append(l, name)
 			}
 		}
@@ -89,13 +120,10 @@ func calledMakers(f *ast.FuncDecl) []string {
 func TestMade(t *testing.T) {
 	all := sources(t)
 	for folder, table := range made() {
-		var want []string
-		for line := range strings.Lines(strings.TrimSpace(table)) {
-			want = append(want, strings.Join(strings.Fields(line), " "))
-		}
+		want := rows(table)
 		got := makers(all, folder)
 		for i := range max(len(got), len(want)) {
-			if i >= len(got) || i >= len(want) || !sameMaker(got[i], want[i]) {
+			if i >= len(got) || i >= len(want) || !sameMaker(strings.Fields(got[i]), want[i]) {
 				t.Errorf("package %s makes %q, not %q", folder, got, want)
 				break
 			}
@@ -103,24 +131,149 @@ func TestMade(t *testing.T) {
 	}
 }
 
+// rows: the lines of a table, word by word.
+func rows(table string) [][]string {
+	var l [][]string
+	for line := range strings.Lines(strings.TrimSpace(table)) {
+		l = append(l, strings.Fields(line))
+	}
+	return l
+}
+
 // sameMaker: two lines, whatever the order in which a variable calls the others.
-func sameMaker(a, b string) bool {
-	x, y := strings.Fields(a), strings.Fields(b)
+func sameMaker(x, y []string) bool {
 	slices.Sort(x[2:])
 	slices.Sort(y[2:])
 	return slices.Equal(x, y)
 }
 
-// Rule 9: what is made so is made without arguments.
-func TestMadeOfNothing(t *testing.T) {
-	for _, s := range sources(t) {
+// Rule 9: what is made so is made without arguments, of whole numbers, and arrays and structs of these.
+func TestMadeOfNumbers(t *testing.T) {
+	all := sources(t)
+	for _, s := range all {
 		if _, ok := made()[s.folder]; !ok {
 			continue
 		}
+		types := typesOf(all, s.folder)
 		for _, d := range s.file.Decls {
-			if f, ok := d.(*ast.FuncDecl); ok && strings.HasSuffix(f.Name.Name, "Made") && (f.Recv != nil || f.Type.Params.NumFields() > 0) {
+			f, ok := d.(*ast.FuncDecl)
+			if !ok {
+				continue
+			}
+			if _, ok := variable(f.Name.Name); !ok {
+				continue
+			}
+			if f.Recv != nil || f.Type.Params.NumFields() > 0 {
 				t.Errorf("%s: %s takes something", s.path, f.Name.Name)
+			}
+			if r := f.Type.Results; r.NumFields() != 1 || !ofNumbers(r.List[0].Type, types) {
+				t.Errorf("%s: %s makes something else", s.path, f.Name.Name)
 			}
 		}
 	}
+}
+
+// typesOf: a package's own types by their names.
+func typesOf(all []source, folder string) map[string]ast.Expr {
+	types := map[string]ast.Expr{}
+	for _, s := range all {
+		if s.folder != folder {
+			continue
+		}
+		for _, d := range s.file.Decls {
+			if g, ok := d.(*ast.GenDecl); ok {
+				for _, spec := range g.Specs {
+					if x, ok := spec.(*ast.TypeSpec); ok {
+						types[x.Name.Name] = x.Type
+					}
+				}
+			}
+		}
+	}
+	return types
+}
+
+func ofNumbers(e ast.Expr, types map[string]ast.Expr) bool {
+	switch x := e.(type) {
+	case *ast.Ident:
+		if own, ok := types[x.Name]; ok {
+			return ofNumbers(own, types)
+		}
+		return slices.Contains([]string{"int", "int64"}, x.Name)
+	case *ast.SelectorExpr:
+		of, ok := x.X.(*ast.Ident)
+		return ok && of.Name == "api" && x.Sel.Name == "Dim"
+	case *ast.ArrayType:
+		return x.Len != nil && ofNumbers(x.Elt, types)
+	case *ast.StructType:
+		for _, f := range x.Fields.List {
+			if !ofNumbers(f.Type, types) {
+				return false
+			}
+		}
+		return true
+	}
+	return false
+}
+
+// ordered: the variables of a table in the order of the start: again and again the first one that leans on none that is missing.
+func ordered(t *testing.T, table string) []string {
+	t.Helper()
+	var order []string
+	all := rows(table)
+	for range all {
+		n := slices.IndexFunc(all, func(r []string) bool {
+			missing := func(name string) bool { return !slices.Contains(order, name) }
+			return missing(r[1]) && !slices.ContainsFunc(r[2:], missing)
+		})
+		if n < 0 {
+			t.Fatal("nothing may come behind", order)
+		}
+		order = append(order, all[n][1])
+	}
+	return order
+}
+
+// grouped: the units of package si, by the variable that makes them.
+func grouped() map[string]string {
+	return map[string]string{
+		"all":      "",
+		"electric": "coulomb volt farad ohm siemens weber tesla henry",
+		"light":    "lumen lux",
+		"rays":     "becquerel gray sievert katal",
+		"force":    "newton pascal",
+		"energy":   "joule",
+		"power":    "watt",
+		"times":    "hertz",
+		"plane":    "radian steradian",
+		"along":    "minute hour day litre tonne bar hectare byte",
+	}
+}
+
+func unitNames(l []api.Unit) []string {
+	var names []string
+	for _, u := range l {
+		names = append(names, u.Name)
+	}
+	return names
+}
+
+// P2: what each package tells stands in the order of the start.
+func TestOrder(t *testing.T) {
+	check := func(folder string, got, want []string) {
+		if len(want) == 0 || !slices.Equal(got, want) {
+			t.Errorf("package %s tells %q, not %q", folder, got, want)
+		}
+	}
+	var prefixes, derived []string
+	for _, p := range prefix.All() {
+		prefixes = append(prefixes, p.Name)
+	}
+	for _, v := range ordered(t, made()["si"]) {
+		derived = append(derived, strings.Fields(grouped()[v])...)
+	}
+	check("prefix", prefixes, ordered(t, made()["prefix"]))
+	check("base", unitNames(base.Units()), ordered(t, made()["base"]))
+	check("si", unitNames(si.Units()), derived)
+	check("si", ordered(t, made()["si"]), strings.Fields("force energy power electric times rays plane light along all"))
 }
