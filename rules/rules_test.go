@@ -56,7 +56,7 @@ func calling() map[string]string {
 }
 
 // standing: the packages of the start that are built.
-func standing() []string { return strings.Fields("nat rat dim names prefix reg base si") }
+func standing() []string { return strings.Fields("nat rat dim names prefix reg base si trad temps") }
 
 type source struct {
 	path, folder string

@@ -10,6 +10,8 @@ import (
 	"cubit/base"
 	"cubit/prefix"
 	"cubit/si"
+	"cubit/temps"
+	"cubit/trad"
 )
 
 // made: the variables of the start, as the chapters' tables have them: of each package, line by line, a file, a variable, and on which others it leans.
@@ -68,6 +70,34 @@ func made() map[string]string {
 			mechanic.go times
 			mechanic.go plane
 			mechanic.go along force`,
+		"trad": `
+			long.go fathom foot
+			long.go foot inch
+			long.go hand inch
+			long.go inch
+			long.go knot nautical
+			long.go mile yard
+			long.go nautical
+			long.go yard foot
+			more.go acre foot
+			more.go atmosphere
+			more.go calorie
+			more.go gallon inch
+			more.go grain pound
+			more.go horsepower foot poundforce
+			more.go ounce pound
+			more.go pint gallon
+			more.go pound
+			more.go poundforce pound
+			more.go psi inch poundforce
+			more.go stone pound
+			more.go ton pound
+			more.go torr atmosphere`,
+		"temps": `
+			points.go points celsius
+			scales.go fahrenheit rankine celsius
+			scales.go rankine
+			scales.go celsius`,
 	}
 }
 
@@ -276,4 +306,8 @@ func TestOrder(t *testing.T) {
 	check("base", unitNames(base.Units()), ordered(t, made()["base"]))
 	check("si", unitNames(si.Units()), derived)
 	check("si", ordered(t, made()["si"]), strings.Fields("force energy power electric times rays plane light along all"))
+	check("trad", unitNames(trad.Units()), ordered(t, made()["trad"]))
+	check("temps", ordered(t, made()["temps"]), strings.Fields("rankine celsius points fahrenheit"))
+	scales := slices.DeleteFunc(ordered(t, made()["temps"]), func(v string) bool { return v == "points" })
+	check("temps", unitNames(temps.Units()), scales)
 }
