@@ -132,6 +132,9 @@ func (f Frac) Cmp(g Frac) int {
 		}
 		return 1
 	}
+	if f.num.Cmp(g.num) == 0 && f.den.Cmp(g.den) == 0 {
+		return 0 // without products: where long numbers are held against one another, they are mostly the same
+	}
 	order := f.num.Mul(g.den).Cmp(g.num.Mul(f.den))
 	if f.below {
 		return -order

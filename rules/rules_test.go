@@ -56,7 +56,9 @@ func calling() map[string]string {
 }
 
 // standing: the packages of the start that are built.
-func standing() []string { return strings.Fields("nat rat dim names prefix reg base si trad temps") }
+func standing() []string {
+	return strings.Fields("nat rat dim names prefix reg base si trad temps nature graph")
+}
 
 type source struct {
 	path, folder string

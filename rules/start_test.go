@@ -8,6 +8,7 @@ import (
 
 	"cubit/api"
 	"cubit/base"
+	"cubit/nature"
 	"cubit/prefix"
 	"cubit/si"
 	"cubit/temps"
@@ -98,6 +99,20 @@ func made() map[string]string {
 			scales.go fahrenheit rankine celsius
 			scales.go rankine
 			scales.go celsius`,
+		"nature": `
+			nature.go faraday charge avogadro
+			nature.go gas boltzmann avogadro
+			nature.go josephson charge planck
+			nature.go klitzing planck charge
+			nature.go avogadro
+			nature.go boltzmann
+			nature.go charge
+			nature.go electron
+			nature.go gravitation
+			nature.go gravity
+			nature.go light
+			nature.go planck
+			nature.go proton`,
 	}
 }
 
@@ -310,4 +325,9 @@ func TestOrder(t *testing.T) {
 	check("temps", ordered(t, made()["temps"]), strings.Fields("rankine celsius points fahrenheit"))
 	scales := slices.DeleteFunc(ordered(t, made()["temps"]), func(v string) bool { return v == "points" })
 	check("temps", unitNames(temps.Units()), scales)
+	var constants []string
+	for _, c := range nature.All() {
+		constants = append(constants, c.Name)
+	}
+	check("nature", constants, ordered(t, made()["nature"]))
 }
