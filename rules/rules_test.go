@@ -55,9 +55,9 @@ func calling() map[string]string {
 	}
 }
 
-// standing: the packages of the start that are built.
+// standing: the packages of the start.
 func standing() []string {
-	return strings.Fields("nat rat dim names prefix reg base si trad temps nature graph")
+	return strings.Fields("api nat rat dim names prefix reg base si nature temps trad graph start house")
 }
 
 type source struct {
@@ -115,20 +115,25 @@ func TestImports(t *testing.T) {
 func TestImportsOfTheStart(t *testing.T) {
 	all := sources(t)
 	for _, folder := range standing() {
-		var got []string
-		for _, s := range all {
-			for _, i := range s.file.Imports {
-				path, _ := strconv.Unquote(i.Path.Value)
-				if own, of := strings.CutPrefix(path, "cubit/"); of && s.folder == folder {
-					got = append(got, own)
-				}
-			}
-		}
-		slices.Sort(got)
-		if got = slices.Compact(got); !slices.Equal(got, strings.Fields(starting()[folder])) {
+		if got := importsOf(all, folder); !slices.Equal(got, strings.Fields(starting()[folder])) {
 			t.Errorf("package %s imports %q", folder, got)
 		}
 	}
+}
+
+// importsOf: the project's own packages that one imports, sorted.
+func importsOf(all []source, folder string) []string {
+	var got []string
+	for _, s := range all {
+		for _, i := range s.file.Imports {
+			path, _ := strconv.Unquote(i.Path.Value)
+			if own, of := strings.CutPrefix(path, "cubit/"); of && s.folder == folder {
+				got = append(got, own)
+			}
+		}
+	}
+	slices.Sort(got)
+	return slices.Compact(got)
 }
 
 func mayImport(from, to string) bool {

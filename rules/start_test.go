@@ -8,9 +8,11 @@ import (
 
 	"cubit/api"
 	"cubit/base"
+	"cubit/house"
 	"cubit/nature"
 	"cubit/prefix"
 	"cubit/si"
+	"cubit/start"
 	"cubit/temps"
 	"cubit/trad"
 )
@@ -113,6 +115,11 @@ func made() map[string]string {
 			nature.go light
 			nature.go planck
 			nature.go proton`,
+		"house": `
+			house.go board parts aliases
+			house.go parts
+			plan.go aliases
+			plan.go plan`,
 	}
 }
 
@@ -244,7 +251,7 @@ func ofNumbers(e ast.Expr, types map[string]ast.Expr) bool {
 		if own, ok := types[x.Name]; ok {
 			return ofNumbers(own, types)
 		}
-		return slices.Contains([]string{"int", "int64"}, x.Name)
+		return slices.Contains([]string{"int", "int64", "rune"}, x.Name)
 	case *ast.SelectorExpr:
 		of, ok := x.X.(*ast.Ident)
 		return ok && of.Name == "api" && x.Sel.Name == "Dim"
@@ -330,4 +337,51 @@ func TestOrder(t *testing.T) {
 		constants = append(constants, c.Name)
 	}
 	check("nature", constants, ordered(t, made()["nature"]))
+}
+
+// P16.4, P2: the house's own description is what the chapters' tables say, and what the program's text is.
+func TestPlan(t *testing.T) {
+	all := sources(t)
+	plan := house.Plan()
+	if len(plan) != len(standing()) {
+		t.Fatal(len(plan))
+	}
+	for n, p := range plan {
+		folder := strings.TrimPrefix(p.Path, "cubit/")
+		var imports []string
+		for _, path := range p.Imports {
+			imports = append(imports, strings.TrimPrefix(path, "cubit/"))
+		}
+		if folder != standing()[n] || !slices.Equal(imports, importsOf(all, folder)) {
+			t.Errorf("package %d is %s, and imports %q", n, p.Path, imports)
+		}
+		var lines [][]string
+		for _, f := range p.Files {
+			for _, v := range f.Vars {
+				lines = append(lines, append([]string{f.Name, v.Name}, v.Uses...))
+			}
+		}
+		if want := rows(made()[folder]); !slices.EqualFunc(lines, want, slices.Equal[[]string]) {
+			t.Errorf("package %s has %q, not %q", folder, lines, want)
+		}
+	}
+}
+
+// P2: the model of the start makes them in the order that is found here by other means.
+func TestStart(t *testing.T) {
+	steps, e, _ := start.Order(house.Plan())
+	if e != api.OK {
+		t.Fatal(e)
+	}
+	for folder, table := range made() {
+		var got []string
+		for _, s := range steps {
+			if s.Path == "cubit/"+folder {
+				got = append(got, s.What)
+			}
+		}
+		if want := ordered(t, table); !slices.Equal(got, want) {
+			t.Errorf("package %s: %q, not %q", folder, got, want)
+		}
+	}
 }
