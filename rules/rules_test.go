@@ -50,8 +50,10 @@ func starting() map[string]string {
 // calling: the imports of other layers that are built, as their chapters tell them.
 func calling() map[string]string {
 	return map[string]string{
-		"flo": "api nat rat",
-		"unc": "api rat",
+		"flo":  "api nat rat",
+		"unc":  "api rat",
+		"decl": "api nat rat dim names",
+		"lex":  "api rat unc names",
 	}
 }
 
