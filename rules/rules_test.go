@@ -50,10 +50,12 @@ func starting() map[string]string {
 // calling: the imports of other layers that are built, as their chapters tell them.
 func calling() map[string]string {
 	return map[string]string{
-		"flo":  "api nat rat",
-		"unc":  "api rat",
-		"decl": "api nat rat dim names",
-		"lex":  "api rat unc names",
+		"flo":    "api nat rat",
+		"unc":    "api rat",
+		"decl":   "api nat rat dim names",
+		"lex":    "api rat unc names",
+		"syntax": "api rat lex",
+		"infer":  "api rat unc dim house syntax",
 	}
 }
 
