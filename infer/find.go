@@ -13,7 +13,7 @@ type finder struct {
 	house *house.House
 	bound []api.Bound
 	first map[string]int // of each variable's name the first one
-	dims  []api.Dim
+	sense []Sense
 }
 
 // spot: what a node's place lets stand there.
@@ -25,11 +25,14 @@ type spot struct {
 
 // find: a node's dimension, behind those of its kids; what can not be is thrown.
 func (f finder) find(n node, s spot) api.Dim {
-	d, e := api.Dim{}, api.OK
+	d, e, stands := api.Dim{}, api.OK, Sense{}
 	within := spot{units: s.units}
 	switch x := n.(type) {
+	case number:
+		stands.Kind = SNumber
 	case name:
-		d, e = f.named(x.text, s)
+		stands, e = f.named(x.text, s)
+		d = stands.Dim
 	case minus:
 		d = f.find(x.a, within)
 	case sum:
@@ -39,6 +42,7 @@ func (f finder) find(n node, s spot) api.Dim {
 	case product:
 		scaled := spot{units: s.units, scale: s.sums && plain(x.a)}
 		d, e = dim.Mul(f.find(x.a, within), f.find(x.b, scaled))
+		stands = f.scaled(x)
 	case quotient:
 		d, e = dim.Quo(f.find(x.a, within), f.find(x.b, within))
 	case power:
@@ -54,7 +58,8 @@ func (f finder) find(n node, s spot) api.Dim {
 	if e != api.OK {
 		panic(fault{e, n.at()})
 	}
-	f.dims[n.at()] = d
+	stands.Dim = d
+	f.sense[n.at()] = stands
 	return d
 }
 
@@ -76,52 +81,79 @@ func plain(n node) bool {
 	return ok
 }
 
-// named: the dimension of a variable, else of a unit, else of a constant.
-func (f finder) named(text string, s spot) (api.Dim, api.Errno) {
+// scaled: is a product a number of a scale?
+func (f finder) scaled(p product) Sense {
+	if b := f.sense[p.b.at()]; b.Kind == SUnit && scale(b.Unit) {
+		return Sense{Kind: SScale, Unit: b.Unit}
+	}
+	return Sense{}
+}
+
+// named: a variable, else a unit, else a constant.
+func (f finder) named(text string, s spot) (Sense, api.Errno) {
 	if i, bound := f.first[text]; bound && !s.units {
-		return f.bound[i].Dim, api.OK
+		return Sense{Kind: SVariable, Dim: f.bound[i].Dim, Bound: i}, api.OK
 	}
 	u, e := f.house.Unit(text)
 	switch {
 	case e == api.ErrUnit && !s.units:
 		return f.constant(text)
 	case e != api.OK:
-		return api.Dim{}, e
+		return Sense{}, e
 	case scale(u) && !s.scale:
-		return api.Dim{}, api.ErrAffine
+		return Sense{}, api.ErrAffine
 	}
-	return u.Dim, api.OK
+	return Sense{Kind: SUnit, Dim: u.Dim, Unit: u}, api.OK
 }
 
 func scale(u api.Unit) bool { return u.Offset.Num != "0" }
 
-// constant: the dimension of its unit.
-func (f finder) constant(text string) (api.Dim, api.Errno) {
+// constant: with the dimension of its unit.
+func (f finder) constant(text string) (Sense, api.Errno) {
 	c, e := f.house.Const(text)
 	if e != api.OK {
-		return api.Dim{}, e
+		return Sense{}, e
+	}
+	parts, e := partsOf(f.house, c)
+	if e != api.OK {
+		return Sense{}, e
 	}
 	product, scales := api.Dim{}, false
-	for _, part := range strings.Fields(c.Unit) {
-		word, exponent, raised := strings.Cut(part, "^")
-		if !raised {
-			exponent = "1"
-		}
-		u, e := f.house.Unit(word)
-		if e != api.OK {
-			return api.Dim{}, e
-		}
-		exp, _ := Power(exponent)
-		scales = scales || scale(u)
+	for _, p := range parts {
+		scales = scales || scale(p.unit)
 		for i := range product {
-			product[i] += u.Dim[i] * exp // what leaves the bounds on the way may come back
+			product[i] += p.unit.Dim[i] * p.exp // what leaves the bounds on the way may come back
 		}
 	}
 	switch {
 	case scales:
-		return api.Dim{}, api.ErrAffine
+		return Sense{}, api.ErrAffine
 	case !dim.Right(product):
-		return api.Dim{}, api.ErrExp
+		return Sense{}, api.ErrExp
 	}
-	return product, api.OK
+	return Sense{Kind: SConst, Dim: product, Const: c}, api.OK
+}
+
+// part: of a constant's unit.
+type part struct {
+	unit api.Unit
+	exp  int
+}
+
+// partsOf: what the words of a constant's unit are read as, with their exponents.
+func partsOf(h *house.House, c api.Const) ([]part, api.Errno) {
+	var all []part
+	for _, text := range strings.Fields(c.Unit) {
+		word, exponent, raised := strings.Cut(text, "^")
+		if !raised {
+			exponent = "1"
+		}
+		u, e := h.Unit(word)
+		if e != api.OK {
+			return nil, e
+		}
+		exp, _ := Power(exponent)
+		all = append(all, part{u, exp})
+	}
+	return all, api.OK
 }

@@ -252,8 +252,11 @@ func (b Big) Pow(n int) Big {
 
 // Root: the greatest number whose power n is not above b. n must be above 0.
 func (b Big) Root(n int) Big {
-	if n == 1 {
+	switch {
+	case n == 1 || b.IsZero():
 		return b
+	case n == 2:
+		return b.squareRoot()
 	}
 	low, high := Big{}, BigOf(1).Shift(b.Len()/n+1)
 	two := BigOf(2)
@@ -267,5 +270,18 @@ func (b Big) Root(n int) Big {
 		} else {
 			low = middle
 		}
+	}
+}
+
+// squareRoot: by Newton's steps from above, which fall till they are there; of long numbers far fewer than by halves. b must not be 0.
+func (b Big) squareRoot() Big {
+	root, two := BigOf(1).Shift(b.Len()/2+1), BigOf(2)
+	for {
+		often, _ := b.DivMod(root)
+		next, _ := root.Add(often).DivMod(two)
+		if next.Cmp(root) >= 0 {
+			return root
+		}
+		root = next
 	}
 }

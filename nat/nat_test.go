@@ -359,6 +359,31 @@ func TestRootIsBetween(t *testing.T) {
 	}
 }
 
+// Square roots go another way than others.
+func TestSquareRoots(t *testing.T) {
+	square := func(a *big.Int) {
+		t.Helper()
+		got, e := nat.Root(a.String(), 2)
+		check(t, "Root of "+a.String(), got, e, new(big.Int).Sqrt(a).String(), api.OK)
+	}
+	for n := range int64(10001) {
+		square(big.NewInt(n))
+	}
+	r := rand.New(rand.NewSource(18))
+	for i := range 2000 {
+		root := number(sample(r, 1+i%300))
+		a := new(big.Int).Mul(root, root)
+		square(a)
+		square(new(big.Int).Add(a, root))
+		square(new(big.Int).Add(a, big.NewInt(1)))
+		if a.Sign() > 0 {
+			square(new(big.Int).Sub(a, big.NewInt(1)))
+		}
+	}
+	square(number(nines(600)))
+	square(number(ten(599)))
+}
+
 func TestRootOfPowers(t *testing.T) {
 	r := rand.New(rand.NewSource(17))
 	for i := range 200 {

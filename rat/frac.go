@@ -205,6 +205,43 @@ func (f Frac) Root() Frac {
 	return Ratio(false, size.Root(2), nat.BigOf(1))
 }
 
+// SquareRoot: the number not below 0 whose square f is, if there is one.
+func (f Frac) SquareRoot() (Frac, bool) {
+	// The square of a number in lowest terms is in lowest terms: both parts must be squares.
+	num, den := f.num.Root(2), f.den.Root(2)
+	if f.below || num.Mul(num).Cmp(f.num) != 0 || den.Mul(den).Cmp(f.den) != 0 {
+		return Frac{}, false
+	}
+	return Frac{num: num, den: den}, true
+}
+
+// Pow: to the power n, at most MaxPow both ways: ErrZero, if f is 0 and n below 0; ErrLarge, if it is not right.
+func (f Frac) Pow(n int) (Frac, api.Errno) {
+	if n < 0 {
+		if f.Sign() == 0 {
+			return Frac{}, api.ErrZero
+		}
+		f, n = f.Inv(), -n
+	}
+	// Powers of coprime numbers are coprime: each may be come to by itself.
+	num, right := power(f.num, n)
+	den, rightToo := power(f.den, n)
+	if !right || !rightToo {
+		return Frac{}, api.ErrLarge
+	}
+	return Frac{f.below && n%2 == 1, num, den}, api.OK
+}
+
+// power: false, if it is too large.
+func power(of nat.Big, n int) (nat.Big, bool) {
+	// A number of d digits is at least ten to the d - 1: what is surely too large need not be worked out.
+	if (of.Len()-1)*n >= api.MaxDigits {
+		return nat.Big{}, false
+	}
+	p := of.Pow(n)
+	return p, p.Len() <= api.MaxDigits
+}
+
 // lowest divides both by what they share.
 func lowest(num, den nat.Big) (nat.Big, nat.Big) {
 	if num.IsOne() || den.IsOne() {

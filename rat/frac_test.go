@@ -5,6 +5,7 @@ import (
 	"math/rand"
 	"testing"
 
+	"cubit/api"
 	"cubit/rat"
 )
 
@@ -92,5 +93,58 @@ func TestFracRoot(t *testing.T) {
 		size := new(big.Rat).Abs(value(v))
 		whole := new(big.Int).Quo(size.Num(), size.Denom())
 		sameFrac(t, "Root", f.Root(), new(big.Rat).SetInt(whole.Sqrt(whole)))
+	}
+}
+
+func TestFracSquareRoot(t *testing.T) {
+	for s, want := range map[string]string{"0": "0", "1": "1", "4": "2", "4/9": "2/3", "1/4": "1/2", "152399025/16": "12345/4", ten(598): ten(299), "1/" + ten(598): "1/" + ten(299)} {
+		f, is := fracOf(t, s).SquareRoot()
+		sameFrac(t, "SquareRoot of "+s, f, value(frac(want)))
+		if !is {
+			t.Error(s, "has no root")
+		}
+	}
+	for _, s := range []string{"2", "3", "8", "-1", "-4", "-4/9", "1/2", "2/9", "4/3", "18/25", "152399024", ten(599), "-" + ten(598)} {
+		if f, is := fracOf(t, s).SquareRoot(); is || f.Sign() != 0 {
+			t.Error(s, "has a root")
+		}
+	}
+	r := rand.New(rand.NewSource(75))
+	for i := range 2000 {
+		v := sample(r, []int{1, 2, 10, 300}[i%4])
+		f, _ := rat.Read(v)
+		root, is := f.Mul(f).SquareRoot()
+		sameFrac(t, "SquareRoot of a square", root, new(big.Rat).Abs(value(v)))
+		if !is {
+			t.Error(v, "is no root")
+		}
+		if _, is := f.Mul(f).Neg().SquareRoot(); is && f.Sign() != 0 {
+			t.Error(v, "below 0")
+		}
+	}
+}
+
+func TestFracPow(t *testing.T) {
+	r := rand.New(rand.NewSource(76))
+	for i := range 3000 {
+		v, n := sample(r, []int{1, 1, 2, 40, 600}[i%5]), []int{r.Intn(9) - 4, r.Intn(700) - 350, r.Intn(8193) - 4096}[i%3]
+		f, _ := rat.Read(v)
+		power, e := f.Pow(n)
+		want, why := rat.Pow(v, n)
+		if e != why {
+			t.Fatalf("%v to the %d: %d, not %d", v, n, e, why)
+		}
+		if e == api.OK {
+			sameFrac(t, "Pow", power, value(want))
+		}
+	}
+	if _, e := fracOf(t, "0").Pow(-1); e != api.ErrZero {
+		t.Error(e)
+	}
+	if _, e := fracOf(t, "2").Pow(1994); e != api.ErrLarge {
+		t.Error(e)
+	}
+	if f, e := fracOf(t, "0").Pow(0); e != api.OK || f.Cmp(fracOf(t, "1")) != 0 {
+		t.Error(e)
 	}
 }

@@ -90,22 +90,11 @@ func Pow(a api.Rat, n int) (api.Rat, api.Errno) {
 	if n < -api.MaxPow || n > api.MaxPow {
 		return api.Rat{}, api.ErrArg
 	}
-	if n < 0 {
-		if f.Sign() == 0 {
-			return api.Rat{}, api.ErrZero
-		}
-		f, n = f.Inv(), -n
-	}
-	// Powers of coprime numbers are coprime: each may be told by itself.
-	num, e := nat.Pow(f.num.Text(), n)
+	power, e := f.Pow(n)
 	if e != api.OK {
 		return api.Rat{}, e
 	}
-	den, e := nat.Pow(f.den.Text(), n)
-	if e != api.OK {
-		return api.Rat{}, e
-	}
-	return api.Rat{Num: signed(f.below && n%2 == 1, num), Den: den}, api.OK
+	return power.Tell()
 }
 
 // Sum: of any number of them.

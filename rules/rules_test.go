@@ -56,6 +56,8 @@ func calling() map[string]string {
 		"lex":    "api rat unc names",
 		"syntax": "api rat lex",
 		"infer":  "api rat unc dim house syntax",
+		"exact":  "api rat dim house syntax infer",
+		"float":  "api rat flo dim house syntax infer",
 	}
 }
 
