@@ -58,6 +58,8 @@ func calling() map[string]string {
 		"infer":  "api rat unc dim house syntax",
 		"exact":  "api rat dim house syntax infer",
 		"float":  "api rat flo dim house syntax infer",
+		"spread": "api rat unc dim house syntax infer",
+		"conv":   "api rat unc flo dim house syntax infer",
 	}
 }
 

@@ -24,19 +24,19 @@ func Spread(a api.Meas, digits int) (api.Rat, api.Errno) {
 	return n.Shift(exp).Tell()
 }
 
-func readFor(a api.Meas, digits int) (value, api.Errno) {
-	x, right := read(a)
+func readFor(a api.Meas, digits int) (Value, api.Errno) {
+	x, right := Read(a)
 	if !right {
-		return value{}, api.ErrForm
+		return Value{}, api.ErrForm
 	}
 	if digits < 1 || digits > mostDigits {
-		return value{}, api.ErrArg
+		return Value{}, api.ErrArg
 	}
 	return x, api.OK
 }
 
 // spread: rounded to n, a natural number of so many digits, times ten to the exp. x must have sources.
-func (x value) spread(digits int) (n rat.Frac, exp int) {
+func (x Value) spread(digits int) (n rat.Frac, exp int) {
 	variance := total(together(x, x), rat.Frac.Mul)
 	// Of a number with p places ahead of the point the root has half as many, rounded up.
 	exp = (variance.Places()+1)>>1 - digits
