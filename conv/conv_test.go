@@ -367,6 +367,34 @@ func TestWrongArguments(t *testing.T) {
 	}
 }
 
+// Between units that were read it is Unc.
+func TestBetween(t *testing.T) {
+	r := rand.New(rand.NewSource(242))
+	found := 0
+	for i, h := range []*house.House{ownHouse(t), oddHouse(t)} {
+		for range 2000 {
+			from, into := grownPair(r, i == 1)
+			a, e, _ := conv.Unit(h, from)
+			b, why, _ := conv.Unit(h, into)
+			if e != api.OK || why != api.OK {
+				continue
+			}
+			m := sampleMeas(r)
+			want, no := conv.Unc(h, m, from, into)
+			if got, e := conv.Between(m, a, b); !sameMeas(got, want) || e != no {
+				t.Errorf("Between(%s, %q, %q) = %s, %d, not %s, %d", short(m), from, into, short(got), e, short(want), no)
+			}
+			if got, e := conv.Between(api.Meas{}, a, b); !sameMeas(got, api.Meas{}) || e != api.ErrForm {
+				t.Error(got, e)
+			}
+			found++
+		}
+	}
+	if found < 3000 {
+		t.Error("so few:", found)
+	}
+}
+
 // What is answered is new, what was given stays.
 func TestAnswersAreNew(t *testing.T) {
 	h := ownHouse(t)

@@ -199,6 +199,12 @@ func (f Frac) Round() Frac {
 	return Ratio(f.below, f.nearest(0), nat.BigOf(1))
 }
 
+// Floor: the greatest whole number not above it.
+func (f Frac) Floor() Frac {
+	size, _ := f.floor()
+	return Ratio(f.below, size, nat.BigOf(1))
+}
+
 // Root: the greatest whole number whose square is not above f, which must not be below 0.
 func (f Frac) Root() Frac {
 	size, _ := f.floor()

@@ -157,8 +157,7 @@ func Floor(a api.Rat) (api.Rat, api.Errno) {
 	if !right {
 		return api.Rat{}, api.ErrForm
 	}
-	size, _ := f.floor()
-	return Ratio(f.below, size, nat.BigOf(1)).Tell()
+	return f.Floor().Tell()
 }
 
 // Round: to so many places behind the point.

@@ -60,6 +60,8 @@ func calling() map[string]string {
 		"float":  "api rat flo dim house syntax infer",
 		"spread": "api rat unc dim house syntax infer",
 		"conv":   "api rat unc flo dim house syntax infer",
+		"show":   "api nat rat flo prefix house",
+		"ledger": "api rat unc house conv",
 	}
 }
 
