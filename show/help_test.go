@@ -223,32 +223,24 @@ func mixedTold(h *house.House, q api.Quant, units []string, n int) (string, api.
 		return "", api.ErrArg
 	}
 	var all []api.Unit
-	for _, text := range units {
+	for i, text := range units {
 		u, e := h.Unit(text)
 		if e != api.OK {
 			return "", e
 		}
-		all = append(all, u)
-	}
-	if !rat.Right(q.Value) {
-		return "", api.ErrForm
-	}
-	faults := map[api.Errno]int{}
-	for i, u := range all {
+		if !rat.Right(q.Value) {
+			return "", api.ErrForm
+		}
 		if u.Dim != q.Dim {
-			faults[api.ErrDim]++
+			return "", api.ErrDim
 		}
 		if u.Offset.Num != "0" {
-			faults[api.ErrAffine]++
+			return "", api.ErrAffine
 		}
 		if i > 0 && bigOf(u.Factor).Cmp(bigOf(all[i-1].Factor)) >= 0 {
-			faults[api.ErrArg]++
+			return "", api.ErrArg
 		}
-	}
-	for _, e := range []api.Errno{api.ErrDim, api.ErrAffine, api.ErrArg} {
-		if faults[e] > 0 {
-			return "", e
-		}
+		all = append(all, u)
 	}
 	left := bigOf(q.Value)
 	sign := left.Sign()

@@ -1,7 +1,6 @@
 package show
 
 import (
-	"slices"
 	"strings"
 
 	"cubit/api"
@@ -12,40 +11,37 @@ import (
 // mostUnits: in which one number may be told.
 const mostUnits = 8
 
-// falling: the factors of units, each below the one ahead of it; or what is wrong with the units, or the quantity.
+// falling: the factors of units, each below the one ahead of it; or what is wrong with the first unit that is at fault, or with the quantity. All faults of one unit go ahead of those of a later one, so that none is read before the one ahead of it is found right.
 func falling(h *house.House, q api.Quant, units []string) ([]rat.Frac, api.Errno) {
-	all, why := unitsOf(h, units)
-	switch {
-	case why != api.OK:
-		return nil, why
-	case !rat.Right(q.Value):
-		return nil, api.ErrForm
-	case slices.ContainsFunc(all, func(u api.Unit) bool { return u.Dim != q.Dim }):
-		return nil, api.ErrDim
-	case slices.ContainsFunc(all, func(u api.Unit) bool { return u.Offset != rat.Of(0) }):
-		return nil, api.ErrAffine
-	}
 	var factors []rat.Frac
-	for i, u := range all {
-		factor, _ := rat.Read(u.Factor)
-		if i > 0 && factor.Cmp(factors[i-1]) >= 0 {
-			return nil, api.ErrArg
+	for _, text := range units {
+		factor, why := nextFactor(h, q, text, factors)
+		if why != api.OK {
+			return nil, why
 		}
 		factors = append(factors, factor)
 	}
 	return factors, api.OK
 }
 
-func unitsOf(h *house.House, texts []string) ([]api.Unit, api.Errno) {
-	var all []api.Unit
-	for _, text := range texts {
-		u, why := h.Unit(text)
-		if why != api.OK {
-			return nil, why
-		}
-		all = append(all, u)
+// nextFactor: that of a unit behind others, whose factors are handed in.
+func nextFactor(h *house.House, q api.Quant, text string, ahead []rat.Frac) (rat.Frac, api.Errno) {
+	u, why := h.Unit(text)
+	switch {
+	case why != api.OK:
+		return rat.Frac{}, why
+	case !rat.Right(q.Value):
+		return rat.Frac{}, api.ErrForm
+	case u.Dim != q.Dim:
+		return rat.Frac{}, api.ErrDim
+	case u.Offset != rat.Of(0):
+		return rat.Frac{}, api.ErrAffine
 	}
-	return all, api.OK
+	factor, _ := rat.Read(u.Factor)
+	if len(ahead) > 0 && factor.Cmp(ahead[len(ahead)-1]) >= 0 {
+		return rat.Frac{}, api.ErrArg
+	}
+	return factor, api.OK
 }
 
 // shared: how often each factor goes in whole into what those ahead of it have left, and how often the last one goes into the rest.

@@ -233,7 +233,7 @@ func TestMixed(t *testing.T) {
 	}
 }
 
-// P25.4: each error at its place in the order: the units' words go ahead of all that is told of them.
+// P25.4: each error at its place in the order: all of a unit's, and the quantity's, ahead of those of the units behind it.
 func TestMixedRefused(t *testing.T) {
 	h, odd := ownHouse(t), oddHouse(t)
 	bad := api.Quant{Dim: late()}
@@ -244,8 +244,8 @@ func TestMixedRefused(t *testing.T) {
 		n     int
 		want  api.Errno
 	}{
-		{nil, bad, "", 0, api.ErrNil}, {nil, bad, "foo", 3, api.ErrNil}, {h, bad, "foo", 0, api.ErrArg}, {h, bad, "foo", 41, api.ErrArg}, {h, bad, "foo", math.MinInt, api.ErrArg}, {h, bad, "", 3, api.ErrArg}, {h, bad, "d h min s ms \u00b5s ns ps fs", 3, api.ErrArg}, {h, bad, "foo s", 3, api.ErrUnit}, {h, bad, "s foo", 3, api.ErrUnit}, {h, bad, "2m s", 3, api.ErrRune}, {h, bad, "in", 3, api.ErrName}, {odd, bad, "dam", 3, api.ErrMixed}, {h, bad, "m s", 3, api.ErrForm}, {h, bad, "degC", 3, api.ErrForm},
-		{h, quant("1", late()), "m", 3, api.ErrDim}, {h, quant("1", late()), "m foo", 3, api.ErrUnit}, {h, quant("1", late()), "s foo", 3, api.ErrUnit}, {h, quant("1", late()), "s m", 3, api.ErrDim}, {h, quant("1", late()), "s degC", 3, api.ErrDim}, {h, quant("1", warm()), "degC", 3, api.ErrAffine}, {h, quant("1", warm()), "degC foo", 3, api.ErrUnit}, {h, quant("1", warm()), "degC s", 3, api.ErrDim}, {h, quant("1", warm()), "mK K s", 3, api.ErrDim}, {h, quant("1", warm()), "mK K degC", 3, api.ErrAffine}, {h, quant("1", warm()), "K degC", 3, api.ErrAffine}, {h, quant("1", warm()), "mK K", 3, api.ErrArg}, {h, quant("1", warm()), "mK K foo", 3, api.ErrUnit}, {h, quant("1", warm()), "mK degC", 3, api.ErrAffine}, {h, quant("1", late()), "s s", 3, api.ErrArg}, {h, quant("1", late()), "s sec", 3, api.ErrArg}, {h, quant("1", late()), "h s min", 3, api.ErrArg}, {h, quant("1", late()), "min h", 3, api.ErrArg},
+		{nil, bad, "", 0, api.ErrNil}, {nil, bad, "foo", 3, api.ErrNil}, {h, bad, "foo", 0, api.ErrArg}, {h, bad, "foo", 41, api.ErrArg}, {h, bad, "foo", math.MinInt, api.ErrArg}, {h, bad, "", 3, api.ErrArg}, {h, bad, "d h min s ms \u00b5s ns ps fs", 3, api.ErrArg}, {h, bad, "foo s", 3, api.ErrUnit}, {h, bad, "s foo", 3, api.ErrForm}, {h, bad, "2m s", 3, api.ErrRune}, {h, bad, "in", 3, api.ErrName}, {odd, bad, "dam", 3, api.ErrMixed}, {h, bad, "m s", 3, api.ErrForm}, {h, bad, "degC", 3, api.ErrForm},
+		{h, quant("1", late()), "m", 3, api.ErrDim}, {h, quant("1", late()), "m foo", 3, api.ErrDim}, {h, quant("1", late()), "s foo", 3, api.ErrUnit}, {h, quant("1", late()), "s m", 3, api.ErrDim}, {h, quant("1", late()), "s degC", 3, api.ErrDim}, {h, quant("1", late()), "ms km", 3, api.ErrDim}, {h, quant("1", warm()), "degC", 3, api.ErrAffine}, {h, quant("1", warm()), "degC foo", 3, api.ErrAffine}, {h, quant("1", warm()), "degC s", 3, api.ErrAffine}, {h, quant("1", warm()), "mK K s", 3, api.ErrArg}, {h, quant("1", warm()), "mK K degC", 3, api.ErrArg}, {h, quant("1", warm()), "K degC", 3, api.ErrAffine}, {h, quant("1", warm()), "mK K", 3, api.ErrArg}, {h, quant("1", warm()), "mK K foo", 3, api.ErrArg}, {h, quant("1", warm()), "mK degC", 3, api.ErrAffine}, {h, quant("1", late()), "s s", 3, api.ErrArg}, {h, quant("1", late()), "s sec", 3, api.ErrArg}, {h, quant("1", late()), "h s min", 3, api.ErrArg}, {h, quant("1", late()), "min h", 3, api.ErrArg},
 		{odd, quant("1e599", long()), "small", 3, api.ErrLarge}, {odd, quant("1e599", long()), "small least", 3, api.ErrLarge}, {odd, quant("1e-599", long()), "m big", 3, api.ErrArg}, {odd, quant("1e-599", long()), "big", 3, api.ErrLarge}, {odd, quant("1e-599", long()), "most big", 3, api.ErrLarge},
 	} {
 		if s, e := show.Mixed(c.h, c.q, strings.Fields(c.units), c.n); s != "" || e != c.want {
@@ -255,6 +255,38 @@ func TestMixedRefused(t *testing.T) {
 	for _, x := range wrongs() {
 		if s, e := show.Mixed(h, api.Quant{Value: x, Dim: late()}, []string{"h", "m"}, 1); s != "" || e != api.ErrForm {
 			t.Errorf("Mixed(%s) = %q, %d", short(x), s, e)
+		}
+	}
+}
+
+// P25.4: of any two faults the one that is told is that of the unit which stands ahead; a Value that is not right is told at the first unit that is one.
+func TestMixedInOrder(t *testing.T) {
+	h := ownHouse(t)
+	faults := []struct {
+		word string
+		want api.Errno
+		read bool
+	}{{"", api.ErrRune, false}, {"2m", api.ErrRune, false}, {"in", api.ErrName, false}, {"foo", api.ErrUnit, false}, {"s", api.ErrDim, true}, {"degC", api.ErrAffine, true}, {"K", api.ErrArg, true}, {"kK", api.ErrArg, true}}
+	for _, one := range faults {
+		first := one.want
+		if one.read {
+			first = api.ErrForm
+		}
+		for _, two := range faults {
+			for _, c := range []struct {
+				q     api.Quant
+				units []string
+				want  api.Errno
+			}{
+				{quant("1", warm()), []string{"K", one.word, two.word}, one.want},
+				{quant("1", warm()), []string{"K", "mK", one.word, two.word}, one.want},
+				{api.Quant{Dim: warm()}, []string{one.word, two.word}, first},
+				{api.Quant{Dim: warm()}, []string{"K", one.word, two.word}, api.ErrForm},
+			} {
+				if s, e := show.Mixed(h, c.q, c.units, 3); s != "" || e != c.want {
+					t.Errorf("Mixed(%s, %q, 3) = %q, %d, not %d", short(c.q), c.units, s, e, c.want)
+				}
+			}
 		}
 	}
 }
@@ -277,8 +309,8 @@ func lots(r *rand.Rand, h *house.House) (string, []string) {
 		}
 	}
 	l = l[:min(len(l), 1+r.Intn(8))]
-	if r.Intn(20) == 0 {
-		l = append(l, pick(r, words(h)...))
+	for range pick(r, 0, 0, 0, 0, 0, 0, 0, 0, 1, 2) {
+		l = slices.Insert(l, r.Intn(len(l)+1), pick(r, words(h)...))
 	}
 	return one, l
 }
