@@ -62,6 +62,8 @@ func calling() map[string]string {
 		"conv":   "api rat unc flo dim house syntax infer",
 		"show":   "api nat rat flo prefix house",
 		"ledger": "api rat unc house conv",
+		"tally":  "api nat rat flo",
+		"pool":   "api rat house conv ledger",
 	}
 }
 
