@@ -64,6 +64,8 @@ func calling() map[string]string {
 		"ledger": "api rat unc house conv",
 		"tally":  "api nat rat flo",
 		"pool":   "api rat house conv ledger",
+		"book":   "api rat house ledger",
+		"shell":  strings.Join(layers()[:len(layers())-1], " "),
 	}
 }
 
